@@ -21,6 +21,9 @@ const (
 // spaceName is the attribute that tells the space of an element.
 const spaceName = "xmlns"
 
+// blanks are the signs that may stand where nothing else does.
+const blanks = " \t\n"
+
 // Attr is an attribute: a name, and what it says.
 type Attr struct {
 	Name string
@@ -61,7 +64,7 @@ func TreePut(list []Node) string {
 		return ""
 	}
 	// What nodes must be is asked by reading, so that nothing is written which cannot be read.
-	again, _, code := readTree(text, "")
+	again, _, code := readTree(text)
 	if code != XmlFine || !slices.EqualFunc(list, again, sameNode) {
 		return ""
 	}
@@ -70,7 +73,7 @@ func TreePut(list []Node) string {
 
 // TreeGet reads a tree, or tells why it stopped.
 func TreeGet(s string) ([]Node, int) {
-	list, size, code := readTree(s[:min(len(s), TreeMax)], "")
+	list, size, code := readTree(s[:min(len(s), TreeMax)])
 	switch {
 	case code == XmlMore && len(s) > TreeMax:
 		return nil, XmlBig
@@ -93,7 +96,7 @@ func nameByte(c byte) bool {
 }
 
 func isBlank(c byte) bool {
-	return c == ' ' || c == '\t' || c == '\n'
+	return strings.IndexByte(blanks, c) >= 0
 }
 
 func sameNode(a, b Node) bool {
@@ -169,8 +172,16 @@ type treeTag struct {
 	spaced bool
 }
 
-// readTree reads the element with which a text begins, in an element of the space outer: its nodes, and how many bytes it takes, or why reading stopped.
-func readTree(text, outer string) (list []Node, size int, code int) {
+// readTree reads the element with which a text begins: its nodes, and how many bytes it takes, or why reading stopped.
+func readTree(text string) ([]Node, int, int) {
+	return readNodes(text, func(r *treeReader) {
+		r.take('<')
+		r.element(-1, "", 0)
+	})
+}
+
+// readNodes lets a reader read what a text begins with: the nodes, and how many bytes they take, or why reading stopped.
+func readNodes(text string, read func(r *treeReader)) (list []Node, size int, code int) {
 	defer func() {
 		if v := recover(); v != nil {
 			stop, ok := v.(treeStop)
@@ -181,8 +192,7 @@ func readTree(text, outer string) (list []Node, size int, code int) {
 		}
 	}()
 	r := treeReader{text: text}
-	r.take('<')
-	r.element(-1, outer, 0)
+	read(&r)
 	return r.list, r.at, XmlFine
 }
 
