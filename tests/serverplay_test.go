@@ -485,6 +485,8 @@ func TestToldFullAheadOfMoreBytes(t *testing.T) {
 	if len(h.at(4).Told) != 900 {
 		t.Error(len(h.at(4).Told))
 	}
+	// Nor is it, with that, that all others leave.
+	h.leaveAll()
 }
 
 func TestKeysRunOut(t *testing.T) {
@@ -590,15 +592,56 @@ func TestLogMaxWithRoomForAllToLeave(t *testing.T) {
 	}
 }
 
-// leaveAll cuts all links, and looks whether all could leave.
+// With nobody in a room Log may have LogMax entries: then nobody can come any more, as they could not leave, and what they would own is not begun.
+func TestAFullLogLetsNobodyCome(t *testing.T) {
+	for many := 116; many <= impl.LogMax; many++ {
+		h := newHub(t, "ann", "bob")
+		h.enter(1, "ann", joinText("den", "Ann"))
+		h.enter(2, "bob", "<enable/>")
+		h.talkUp(many)
+		h.feed(1, leaveText("den"), by("1", leaveTold("den", many-1, "ann", 0)))
+		checkRisen(t, h.s.Accounts, h.s.Journal, h.s.Next)
+		for _, c := range []struct {
+			link  string
+			room  string
+			more  int
+			comes []string
+		}{
+			{"1", "den", 2, by("1", joinTold("den", many, "ann", 3))},
+			{"2+", "den", 2, by("2+", joinTold("den", many, "bob", 2))},
+			{"1", "hall", 3, by("1", joinTold("hall", 1, "ann", 3))},
+			{"2+", "hall", 3, by("2+", joinTold("hall", 1, "bob", 3))},
+		} {
+			x := h.fork()
+			link, user := int(c.link[0]-'0'), h.at(int(c.link[0]-'0')).User
+			if many+c.more <= impl.LogMax {
+				x.feed(link, joinText(c.room, nickOf(user)), c.comes)
+			} else {
+				x.feed(link, joinText(c.room, nickOf(user)), by(c.link, "<error code='5'/>"))
+				if len(x.s.Log) != many {
+					t.Errorf("behind %d entries there happens %+v", many, x.s.Log[many:])
+				}
+			}
+			x.leaveAll()
+		}
+	}
+}
+
+// leaveAll cuts all links, waits until nobody comes back, and looks whether all could leave.
 func (h *hub) leaveAll() {
 	h.Helper()
 	up := impl.ServerRise(h.s.Accounts, h.s.Journal, h.s.Next)
 	if !impl.ServerOk(up) {
 		h.Fatalf("it does not rise from %+v", h.s)
 	}
-	for len(h.s.Sess) > 0 {
-		h.step(impl.ServerCut(h.s, h.s.Sess[0].Link))
+	for _, x := range h.s.Sess {
+		h.step(impl.ServerCut(h.s, x.Link))
+	}
+	for range impl.IdleMax + 1 {
+		h.step(impl.ServerTick(h.s))
+	}
+	if len(h.s.Sess) > 0 {
+		h.Fatalf("there is still %+v", h.s.Sess)
 	}
 	if len(h.s.Log) != len(up.Log) || len(h.s.Log) > impl.LogMax {
 		h.Fatalf("%d have happened, not %d", len(h.s.Log), len(up.Log))
