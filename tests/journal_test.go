@@ -182,9 +182,14 @@ func TestP31AnEntryIsReadBack(t *testing.T) {
 
 // scratched is a text with some bytes taken out, put in or changed.
 func (d dice) scratched(text string) string {
+	return d.scratchedBy(text, "|\\0123 ;am\xff")
+}
+
+// scratchedBy takes what it puts in from some bytes.
+func (d dice) scratchedBy(text, bytes string) string {
 	s := []byte(text)
 	for range 1 + d.IntN(2) {
-		at, b := d.IntN(len(s)+1), "|\\0123 ;am\xff"[d.IntN(11)]
+		at, b := d.IntN(len(s)+1), bytes[d.IntN(len(bytes))]
 		switch d.IntN(3) {
 		case 0:
 			s = slices.Insert(s, at, b)

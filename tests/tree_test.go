@@ -259,12 +259,17 @@ func TestTreeLimits(t *testing.T) {
 	}
 }
 
-// Nodes that cannot be written.
-func TestTreeNotOk(t *testing.T) {
+// wrongTrees is nodes that cannot be written, by what is wrong.
+func wrongTrees() map[string][]impl.Node {
 	el := func(up int, name string) impl.Node { return impl.Node{Up: up, Name: name} }
 	text := func(up int, s string) impl.Node { return impl.Node{Up: up, Text: s} }
 	root := el(-1, "a")
-	wrong := map[string][]impl.Node{
+	chain := []impl.Node{root}
+	for i := range 100000 {
+		chain = append(chain, el(i, "a"))
+	}
+	return map[string][]impl.Node{
+		"a long chain":         chain,
 		"none":                 nil,
 		"empty":                {},
 		"text alone":           {text(-1, "x")},
@@ -310,17 +315,13 @@ func TestTreeNotOk(t *testing.T) {
 		"25 nodes":             append([]impl.Node{root}, slices.Repeat([]impl.Node{el(0, "b")}, impl.NodeMax)...),
 		"many nodes":           append([]impl.Node{root}, slices.Repeat([]impl.Node{el(0, "b")}, 100000)...),
 	}
-	for what, list := range wrong {
+}
+
+func TestTreeNotOk(t *testing.T) {
+	for what, list := range wrongTrees() {
 		if impl.TreeOk(list) || impl.TreePut(list) != "" {
 			t.Errorf("%s: TreePut is %.80q", what, impl.TreePut(list))
 		}
-	}
-	chain := []impl.Node{root}
-	for i := range 100000 {
-		chain = append(chain, el(i, "a"))
-	}
-	if impl.TreeOk(chain) {
-		t.Error("a long chain is ok")
 	}
 }
 
