@@ -171,18 +171,28 @@ func (h *hub) step(s impl.Server, list []impl.Out) []impl.Out {
 	if !impl.ServerOk(s) {
 		h.Fatalf("not ok: %+v", s)
 	}
-	if !strings.HasPrefix(s.Journal, was.Journal) || len(s.Log) < len(was.Log) || !slices.Equal(s.Log[:len(was.Log)], was.Log) || journalOf(s.Log...) != s.Journal {
+	if !strings.HasPrefix(s.Journal, was.Journal) || len(s.Log) < len(was.Log) || !slices.Equal(s.Log[:len(was.Log)], was.Log) || journalOf(s.Log[len(was.Log):]...) != s.Journal[len(was.Journal):] {
 		h.Fatalf("of %+v, %q, it is %+v, %q", was.Log, was.Journal, s.Log, s.Journal)
 	}
 	for _, o := range list {
 		if !slices.ContainsFunc(was.Sess, func(x impl.Sess) bool { return x.Link == o.Link && o.Link != -1 }) {
 			h.Fatalf("%+v goes out, but nobody has that link", o)
 		}
-		if strings.HasPrefix(o.Text, "<entry") && !slices.ContainsFunc(s.Log, func(e impl.Entry) bool { return entryTold(e) == o.Text }) {
+		if strings.HasPrefix(o.Text, "<entry") && !isWritten(s.Log, o.Text) {
 			h.Fatalf("%+v goes out, but is not written", o)
 		}
 	}
 	return list
+}
+
+// isWritten says whether a text tells an entry of a log. What was written last is told most.
+func isWritten(log []impl.Entry, text string) bool {
+	for _, e := range slices.Backward(log) {
+		if entryTold(e) == text {
+			return true
+		}
+	}
+	return false
 }
 
 func (h *hub) expect(list []impl.Out, want []string) {

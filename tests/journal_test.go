@@ -207,7 +207,7 @@ func (d dice) scratchedBy(text, bytes string) string {
 func TestP32WhatIsReadIsWrittenJustSo(t *testing.T) {
 	d := newDice()
 	read, not := 0, 0
-	for range 50000 {
+	for range 20000 {
 		text := d.scratched(written(d.barredEntry()))
 		e, ok := impl.EntryGet(text)
 		if !ok {
@@ -220,7 +220,7 @@ func TestP32WhatIsReadIsWrittenJustSo(t *testing.T) {
 			t.Fatalf("EntryGet(%q) is %+v", text, e)
 		}
 	}
-	if read < 5000 || not < 5000 {
+	if read < 2000 || not < 2000 {
 		t.Error(read, not)
 	}
 }
@@ -389,7 +389,7 @@ func TestWhatCannotBeNextIsNotRead(t *testing.T) {
 func TestP33WhatWasAddedIsReadBack(t *testing.T) {
 	d := newDice()
 	added, not := 0, 0
-	for range 1500 {
+	for range 700 {
 		list := d.story(d.IntN(30))
 		j := journalOf(list...)
 		r := impl.RoomOf(j, []string{"den", "hall", "x", "y"}[d.IntN(4)])
@@ -416,7 +416,7 @@ func TestP33WhatWasAddedIsReadBack(t *testing.T) {
 			t.Fatalf("RoomOf(%q, %s) is %+v, not %+v", got, r.Name, behind, after)
 		}
 	}
-	if added < 300 || not < 300 {
+	if added < 140 || not < 140 {
 		t.Error(added, not)
 	}
 }
@@ -474,14 +474,17 @@ func ends(list []impl.Entry) []int {
 func TestP36WhatIsBehindAnotherByteIsNotRead(t *testing.T) {
 	d := newDice()
 	tales := [][]impl.Entry{tale(), d.story(120)}
-	for range 20 {
+	for range 12 {
 		tales = append(tales, d.story(1+d.IntN(12)))
 	}
 	for _, list := range tales {
 		j, ends := journalOf(list...), ends(list)
 		for at := range j {
 			whole := slices.IndexFunc(ends, func(end int) bool { return end > at })
-			size := len(journalOf(list[:whole]...))
+			size := 0
+			if whole > 0 {
+				size = ends[whole-1]
+			}
 			for _, b := range []byte{255, j[at] ^ 1, '0', ' ', ';', '|'} {
 				if len(list) == 120 && (b != 255 || d.IntN(10) > 0) || b == j[at] {
 					continue
@@ -519,7 +522,7 @@ func (d dice) shuffled(list []impl.Entry) string {
 func TestP35WhatIsReadIsInTheOrderOfEachRoom(t *testing.T) {
 	d := newDice()
 	all, some := 0, 0
-	for range 2000 {
+	for range 600 {
 		j := d.shuffled(d.story(1 + d.IntN(30)))
 		list, n := impl.JourRead(j)
 		if n == len(j) {
@@ -541,14 +544,14 @@ func TestP35WhatIsReadIsInTheOrderOfEachRoom(t *testing.T) {
 			}
 		}
 	}
-	if all < 300 || some < 300 {
+	if all < 90 || some < 90 {
 		t.Error(all, some)
 	}
 }
 
 func TestP37ARoomIsWhatItsEntriesLeft(t *testing.T) {
 	d := newDice()
-	for range 500 {
+	for range 200 {
 		list := d.story(d.IntN(60))
 		j := journalOf(list...)
 		for _, name := range []string{"den", "hall", "x", "y", "abcdefgh"} {

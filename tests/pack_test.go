@@ -167,7 +167,7 @@ func TestP64ARoomIsReadBack(t *testing.T) {
 func TestP65WhatIsReadAsARoomIsWrittenJustSo(t *testing.T) {
 	d := newDice()
 	read, not := 0, 0
-	for range 50000 {
+	for range 15000 {
 		text := d.scratched(roomWritten(d.barredRoom()))
 		r, ok := impl.RoomGet(text)
 		if !ok {
@@ -180,7 +180,7 @@ func TestP65WhatIsReadAsARoomIsWrittenJustSo(t *testing.T) {
 			t.Fatalf("RoomGet(%q) is %+v", text, r)
 		}
 	}
-	if read < 5000 || not < 5000 {
+	if read < 1500 || not < 1500 {
 		t.Error(read, not)
 	}
 }
@@ -284,7 +284,7 @@ var packNames = []string{"den", "hall", "x", "y", "abcdefgh"}
 
 func TestP66APackTellsTheSameRooms(t *testing.T) {
 	d := newDice()
-	for range 100 {
+	for range 40 {
 		list := d.story(d.IntN(40))
 		j := journalOf(list...)
 		for at := range len(list) + 1 {
@@ -334,7 +334,7 @@ func checkNotPacked(t *testing.T, p string, e impl.Entry) {
 func TestP68WhatIsAddedToAPack(t *testing.T) {
 	d := newDice()
 	added, not := 0, 0
-	for range 1500 {
+	for range 700 {
 		list := d.story(d.IntN(30))
 		at := d.IntN(len(list) + 1)
 		p, _ := impl.PackMake(journalOf(list...), at)
@@ -362,7 +362,7 @@ func TestP68WhatIsAddedToAPack(t *testing.T) {
 			t.Fatalf("PackRoom(%q, %s) is %+v, not %+v", got, r.Name, behind, after)
 		}
 	}
-	if added < 300 || not < 300 {
+	if added < 140 || not < 140 {
 		t.Error(added, not)
 	}
 }
@@ -410,7 +410,7 @@ func (d dice) shuffledPack() string {
 func TestP69WhatIsReadOfAPack(t *testing.T) {
 	d := newDice()
 	all, some := 0, 0
-	for range 3000 {
+	for range 1200 {
 		p := d.shuffledPack()
 		rooms, list, n := impl.PackRead(p)
 		if n == len(p) {
@@ -441,7 +441,7 @@ func TestP69WhatIsReadOfAPack(t *testing.T) {
 			}
 		}
 	}
-	if all < 500 || some < 500 {
+	if all < 200 || some < 200 {
 		t.Error(all, some)
 	}
 }

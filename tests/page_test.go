@@ -182,7 +182,7 @@ var pageNames = []string{"", "", "ann", "bob", "zoe"}
 func TestP28APageIsSomeOfAll(t *testing.T) {
 	d := newDice()
 	codes := [12]int{}
-	for range 20000 {
+	for range 8000 {
 		log, s := d.log(), askPage(1+d.IntN(4), -1, -1, pageNames[d.IntN(5)])
 		switch d.IntN(3) {
 		case 0:
@@ -210,7 +210,7 @@ func TestP28APageIsSomeOfAll(t *testing.T) {
 			}
 		}
 	}
-	if codes[impl.ErrFine] < 1000 || codes[impl.ErrItem] < 1000 {
+	if codes[impl.ErrFine] < 400 || codes[impl.ErrItem] < 400 {
 		t.Error(codes)
 	}
 }

@@ -424,7 +424,7 @@ type turn struct {
 func turns(t *testing.T) []turn {
 	d := newDice()
 	var all []turn
-	for range 800 {
+	for range 250 {
 		r, log := d.room(), []impl.Entry(nil)
 		if d.IntN(2) == 0 {
 			r = impl.Room{Name: "den"}
@@ -582,7 +582,7 @@ func TestP26WhoIsOutcastIsNotThere(t *testing.T) {
 			}
 		}
 	}
-	if put < 50 {
+	if put < 15 {
 		t.Errorf("only %d were put out while there", put)
 	}
 }

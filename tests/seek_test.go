@@ -283,7 +283,7 @@ func saidAll(log []impl.Entry, room string) []impl.Entry {
 func TestP71WhatStandsIsWhatWasSaidFirst(t *testing.T) {
 	d := newDice()
 	replaced, kept := 0, 0
-	for range 10000 {
+	for range 4000 {
 		log := d.heard()
 		now, talk := impl.SeekNow(log, "den"), saidAll(log, "den")
 		if want := standing(log, "den"); !slices.Equal(now, want) {
@@ -309,7 +309,7 @@ func TestP71WhatStandsIsWhatWasSaidFirst(t *testing.T) {
 			}
 		}
 	}
-	if replaced < 1000 || kept < 1000 {
+	if replaced < 400 || kept < 400 {
 		t.Error(replaced, kept)
 	}
 }
@@ -329,7 +329,7 @@ func seqsWith(now []impl.Entry, words []string) []int {
 func TestP72WhatIsFoundHasAllWords(t *testing.T) {
 	d := newDice()
 	some, none := 0, 0
-	for range 10000 {
+	for range 4000 {
 		log, text := d.heard(), d.wordy()
 		now := standing(log, "den")
 		got := impl.SeekOf(log, "den", text)
@@ -347,7 +347,7 @@ func TestP72WhatIsFoundHasAllWords(t *testing.T) {
 			}
 		}
 	}
-	if some < 2000 || none < 2000 {
+	if some < 800 || none < 800 {
 		t.Error(some, none)
 	}
 }
@@ -358,7 +358,7 @@ func sameHit(a, b impl.Hit) bool {
 
 func TestP73AnIndexHasEachWordOnce(t *testing.T) {
 	d := newDice()
-	for range 5000 {
+	for range 1500 {
 		log := d.heard()
 		index := impl.SeekIndex(log, "den")
 		var words []string

@@ -58,7 +58,7 @@ func TestP43WhatTellsAnEntryIsATreeOfItsOwn(t *testing.T) {
 	d := newDice()
 	seen := map[string]impl.Entry{}
 	kinds := [7]int{}
-	for range 20000 {
+	for range 10000 {
 		e := d.toldEntry()
 		if d.IntN(10) == 0 {
 			e.Num = d.IntN(8) - 2
@@ -81,7 +81,7 @@ func TestP43WhatTellsAnEntryIsATreeOfItsOwn(t *testing.T) {
 		seen[text] = e
 	}
 	for kind := 1; kind <= 6; kind++ {
-		if kinds[kind] < 500 {
+		if kinds[kind] < 250 {
 			t.Error(kinds)
 		}
 	}
@@ -368,8 +368,12 @@ func TestOfAServerThatIsNotOkThereIsNothing(t *testing.T) {
 }
 
 func TestP45ALinkThatComesIsOneMoreSession(t *testing.T) {
-	for _, s := range serversOk() {
+	for i, s := range serversOk() {
 		for link := -2; link <= 101; link++ {
+			// Links in the middle are asked of the first one alone.
+			if i > 0 && 14 < link && link < 98 {
+				continue
+			}
 			got, ok := impl.ServerOpen(s, link)
 			taken := slices.ContainsFunc(s.Sess, func(x impl.Sess) bool { return x.Link == link })
 			if want := link >= 0 && link <= 99 && !taken && len(s.Sess) < 6; ok != want {

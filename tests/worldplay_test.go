@@ -94,7 +94,7 @@ func (p *troupe) play(many int, fair bool, look func()) {
 
 func TestP54WhatIsPlayedIsDoneOneByOne(t *testing.T) {
 	d := newDice()
-	for range 40 {
+	for range 16 {
 		newTroupe(t, d).play(d.IntN(61), false, func() {})
 	}
 	list := accountsOf("ann", "bob")
@@ -159,7 +159,7 @@ func (p *troupe) checkSafe() (linked, lost int) {
 func TestP55WhatComesIsWhatWasTold(t *testing.T) {
 	d := newDice()
 	linked, lost, falls := 0, 0, 0
-	for range 250 {
+	for range 60 {
 		p := newTroupe(t, d)
 		p.play(60, true, func() {
 			a, b := p.checkSafe()
@@ -169,7 +169,7 @@ func TestP55WhatComesIsWhatWasTold(t *testing.T) {
 			}
 		})
 	}
-	if linked < 5000 || lost < 2000 || falls < 100 {
+	if linked < 1200 || lost < 480 || falls < 24 {
 		t.Error(linked, lost, falls)
 	}
 }
@@ -177,7 +177,7 @@ func TestP55WhatComesIsWhatWasTold(t *testing.T) {
 func TestP56WhoComesBackInTimeHasAll(t *testing.T) {
 	d := newDice()
 	back, more := 0, 0
-	for range 250 {
+	for range 80 {
 		p := newTroupe(t, d)
 		p.play(60, true, func() {
 			for at, c := range p.w.Clients {
@@ -198,7 +198,7 @@ func TestP56WhoComesBackInTimeHasAll(t *testing.T) {
 			}
 		})
 	}
-	if back < 1000 || more < 300 {
+	if back < 300 || more < 90 {
 		t.Error(back, more)
 	}
 }
@@ -228,7 +228,7 @@ func toldOfRoom(s impl.Server, x impl.Sess, room string) (told, all []string) {
 func TestP57WhoIsInARoomIsToldAll(t *testing.T) {
 	d := newDice()
 	whole, begun, none := 0, 0, 0
-	for range 200 {
+	for range 40 {
 		p := newTroupe(t, d)
 		p.play(60, false, func() {
 			for i, x := range p.w.Server.Sess {
@@ -255,7 +255,7 @@ func TestP57WhoIsInARoomIsToldAll(t *testing.T) {
 			}
 		})
 	}
-	if whole < 2000 || begun < 100 || none < 2000 {
+	if whole < 400 || begun < 20 || none < 400 {
 		t.Error(whole, begun, none)
 	}
 }
@@ -263,7 +263,7 @@ func TestP57WhoIsInARoomIsToldAll(t *testing.T) {
 func TestP58WhoAreInNoRoomTogetherAreToldNothing(t *testing.T) {
 	d := newDice()
 	looked := 0
-	for range 150 {
+	for range 60 {
 		p := newTroupe(t, d)
 		p.play(60, false, func() {})
 		for _, x := range p.w.Server.Sess {
@@ -282,7 +282,7 @@ func TestP58WhoAreInNoRoomTogetherAreToldNothing(t *testing.T) {
 			}
 		}
 	}
-	if looked < 200 {
+	if looked < 80 {
 		t.Error(looked)
 	}
 	// Two rooms, and one who is in both.
